@@ -75,3 +75,71 @@ func TestVastSchemasAreAnswered(t *testing.T) {
 		t.Error("a million may come")
 	}
 }
+
+func TestVastTreesAreAnsweredInSteps(t *testing.T) {
+	good := row(3)
+	for i, vast := range vastTrees() {
+		for _, c := range []struct {
+			tree impl.Tree
+			step impl.Step
+		}{
+			{vast, cut(2)}, {vast, worded(1, "x")}, {vast, put(1, 0, leaf(7))}, {vast, put(1, 0, vast)}, {good, put(1, 0, vast)},
+			{good, impl.Step{Kind: impl.StepCut, Id: 2, Node: vast}}, {good, impl.Step{Kind: impl.StepText, Id: 2, Node: vast}}, {good, impl.Step{Kind: 9, Node: vast}},
+		} {
+			_, done := impl.StepDo(c.tree, c.step)
+			_, all := impl.StepsDo(c.tree, []impl.Step{c.step})
+			_, undone := impl.StepBack(c.tree, c.step)
+			_, back := impl.StepsBack(c.tree, []impl.Step{c.step})
+			_, over := impl.StepOver(c.tree, c.step, cut(3))
+			if done || all || undone || back || over || !impl.StepsMeet(c.tree, c.step, cut(3)) || !impl.StepsMeet(c.tree, cut(3), c.step) {
+				t.Errorf("tree %d: a step of the kind %d is done", i, c.step.Kind)
+			}
+			if c.tree.Id == good.Id && len(c.tree.Kids) == len(good.Kids) && impl.StepsText([]impl.Step{cut(3), {Kind: c.step.Kind, Id: 1, Node: vast}}) != "" {
+				t.Errorf("tree %d: a step of the kind %d is written", i, c.step.Kind)
+			}
+		}
+	}
+}
+
+func TestVastTreesAreAnsweredInDifferences(t *testing.T) {
+	good := row(3)
+	for i, vast := range vastTrees() {
+		for _, pair := range [][2]impl.Tree{{vast, vast}, {vast, good}, {good, vast}} {
+			if list, ok := impl.DiffSteps(pair[0], pair[1]); ok || len(list) != 0 || impl.DiffCost(pair[0], pair[1]) != -1 {
+				t.Errorf("tree %d differs by steps", i)
+			}
+		}
+		if impl.TreeCount(vast, "a") != 0 || len(impl.TreeTexts(vast)) != 0 || impl.TreeLevel(vast, 1) != 0 || impl.PathOf(vast, 1) != "" || impl.PathFind(vast, "a") != 0 || !sameTree(impl.TreeFresh(vast), impl.Tree{}) {
+			t.Errorf("tree %d is looked at", i)
+		}
+	}
+}
+
+func TestVastListsOfStepsAreAnswered(t *testing.T) {
+	tree, many := row(20), 30_000
+	var list []impl.Step
+	for i := range many {
+		list = append(list, worded(2+i%19, []string{"x", "y"}[i/19%2]))
+	}
+	done, ok := impl.StepsDo(tree, list)
+	back, fine := impl.StepsBack(tree, list)
+	if !ok || !fine || len(back) != many || !sameTree(done, steppedAll(tree, list[many-38:])) || strings.Count(impl.StepsText(list), "\n") != many {
+		t.Errorf("%d steps: %v, %v, %d back", many, ok, fine, len(back))
+	}
+	list = append(list, cut(1))
+	if got, ok := impl.StepsDo(tree, list); ok || !sameTree(got, tree) {
+		t.Error("what cannot be done at last leaves something")
+	}
+	if back, ok := impl.StepsBack(tree, list); ok || len(back) != 0 {
+		t.Error("what cannot be done at last is undone")
+	}
+}
+
+func TestVastWaysAreAnswered(t *testing.T) {
+	many := 1_000_000
+	for i, way := range []string{strings.Repeat("a", many), "a" + strings.Repeat("/a.0", many), "a/a." + strings.Repeat("0", many), strings.Repeat("/", many)} {
+		if got := impl.PathFind(chain(6), way); got != 0 {
+			t.Errorf("way %d leads to %d", i, got)
+		}
+	}
+}

@@ -166,3 +166,100 @@ func TestSpareRoomIsNotRead(t *testing.T) {
 		}
 	}
 }
+
+// roomySteps is steps each list of which has spare room, with something in it.
+func roomySteps(list []impl.Step) []impl.Step {
+	steps := []impl.Step{}
+	for _, s := range list {
+		s.Node = roomyTree(s.Node)
+		steps = append(steps, s)
+	}
+	return append(steps, put(1, 0, inside(leaf(88))), cut(2))[:len(steps)]
+}
+
+// stepsAndMore is steps that can be done one behind the other, others, and some that never can.
+func stepsAndMore(c chance, tree impl.Tree) []impl.Step {
+	list := append(c.doables(tree, 4), c.step(tree), c.step(tree))
+	return roomySteps(append(list, impl.Step{Kind: 9}, cut(1000), put(tree.Id, 0, leaf(1000)), worded(tree.Id, `"`)))
+}
+
+func TestMemoryOfSteps(t *testing.T) {
+	c := newChance()
+	trees := append(edgeTrees(), badTrees()[:8]...)
+	for range 40 {
+		trees = append(trees, c.tree())
+	}
+	for _, plain := range trees {
+		tree, list := roomyTree(plain), stepsAndMore(c, inside(leaf(2)))
+		if rightTree(plain) {
+			list = stepsAndMore(c, plain)
+		}
+		for _, s := range list {
+			args := []any{tree, list} // s is one of the list
+			checkMemory(t, "StepDo", args, func() []any { return answers(impl.StepDo(tree, s)) })
+			checkMemory(t, "StepBack", args, func() []any { return answers(impl.StepBack(tree, s)) })
+			checkMemory(t, "StepsMeet", args, func() []any { return []any{impl.StepsMeet(tree, list[0], s)} })
+			checkMemory(t, "StepOver", args, func() []any { return answers(impl.StepOver(tree, list[0], s)) })
+		}
+		for size := range len(list) + 1 {
+			some := list[:size]
+			checkMemory(t, "StepsDo", []any{tree, some}, func() []any { return answers(impl.StepsDo(tree, some)) })
+			checkMemory(t, "StepsBack", []any{tree, some}, func() []any { return answers(impl.StepsBack(tree, some)) })
+			checkMemory(t, "StepsText", some, func() []any { return []any{impl.StepsText(some)} })
+		}
+	}
+}
+
+func TestMemoryOfDifferences(t *testing.T) {
+	for _, pair := range append(somePairs(150), [2]impl.Tree{row(3), row(21)}, [2]impl.Tree{chain(1), {Id: 2, Kind: "a"}}) {
+		a, b := roomyTree(pair[0]), roomyTree(pair[1])
+		checkMemory(t, "DiffSteps", []any{a, b}, func() []any { return answers(impl.DiffSteps(a, b)) })
+		checkMemory(t, "DiffCost", []any{a, b}, func() []any { return []any{impl.DiffCost(a, b)} })
+	}
+}
+
+func TestMemoryOfLooking(t *testing.T) {
+	c := newChance()
+	trees := append(edgeTrees(), badTrees()...)
+	for range 30 {
+		trees = append(trees, c.tree())
+	}
+	for _, plain := range trees {
+		tree, ids := roomyTree(plain), idsOf(plain)
+		id := ids[len(ids)/2]
+		way := wayOf(plain, id)
+		checkMemory(t, "TreeTexts", tree, func() []any { return []any{impl.TreeTexts(tree)} })
+		checkMemory(t, "TreeFresh", tree, func() []any { return []any{impl.TreeFresh(tree)} })
+		checkMemory(t, "TreeCount and others", tree, func() []any {
+			return []any{impl.TreeCount(tree, "b"), impl.TreeLevel(tree, id), impl.PathOf(tree, id), impl.PathFind(tree, way)}
+		})
+	}
+}
+
+// What stands behind the end of a list is none of it, in steps too.
+func TestSpareRoomIsNotReadInSteps(t *testing.T) {
+	c := newChance()
+	for _, pair := range somePairs(200) {
+		a, b := pair[0], pair[1]
+		list := c.doables(a, 3)
+		list = append(list, c.step(a))
+		plain := fmt.Sprint(seenOf(a, b, list))
+		if roomy := fmt.Sprint(seenOf(roomyTree(a), roomyTree(b), roomySteps(list))); roomy != plain {
+			t.Fatalf("%s, %s and %v: %s, and with spare room %s", textOfTree(a), textOfTree(b), list, plain, roomy)
+		}
+	}
+}
+
+// seenOf is what all functions about steps answer.
+func seenOf(a, b impl.Tree, list []impl.Step) []any {
+	s, u := list[0], list[len(list)-1]
+	var seen []any
+	seen = append(seen, answers(impl.StepDo(a, s))...)
+	seen = append(seen, answers(impl.StepBack(a, s))...)
+	seen = append(seen, answers(impl.StepsDo(a, list))...)
+	seen = append(seen, answers(impl.StepsBack(a, list))...)
+	seen = append(seen, answers(impl.StepOver(a, s, u))...)
+	seen = append(seen, answers(impl.DiffSteps(a, b))...)
+	seen = append(seen, impl.StepsMeet(a, s, u), impl.StepsText(list), impl.DiffCost(a, b), impl.TreeTexts(b), impl.TreeFresh(b))
+	return append(seen, impl.TreeCount(b, "b"), impl.PathOf(b, b.Id), impl.PathFind(b, b.Kind), impl.TreeLevel(b, b.Id))
+}
