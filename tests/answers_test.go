@@ -143,3 +143,14 @@ func TestVastWaysAreAnswered(t *testing.T) {
 		}
 	}
 }
+
+func TestVastTreesAreAnsweredInMerges(t *testing.T) {
+	for i, vast := range vastTrees() {
+		good := impl.Tree{Id: vast.Id, Kind: "a"}
+		for _, c := range [][3]impl.Tree{{vast, good, good}, {good, vast, good}, {good, good, vast}, {good, vast, vast}, {vast, good, vast}, {vast, vast, good}, {vast, vast, vast}} {
+			if !refused(c[0], c[1], c[2]) {
+				t.Errorf("tree %d fits", i)
+			}
+		}
+	}
+}

@@ -263,3 +263,35 @@ func seenOf(a, b impl.Tree, list []impl.Step) []any {
 	seen = append(seen, impl.StepsMeet(a, s, u), impl.StepsText(list), impl.DiffCost(a, b), impl.TreeTexts(b), impl.TreeFresh(b))
 	return append(seen, impl.TreeCount(b, "b"), impl.PathOf(b, b.Id), impl.PathFind(b, b.Kind), impl.TreeLevel(b, b.Id))
 }
+
+func TestMemoryOfMerges(t *testing.T) {
+	triples := append(someTriples()[:400:400], [3]impl.Tree{row(20), row(11), row(20)}, [3]impl.Tree{row(3), row(21), row(3)}, [3]impl.Tree{row(1), row(20), inside(chain(7))})
+	for _, trees := range triples {
+		for _, sides := range [][3]impl.Tree{trees, {trees[0], trees[1], trees[0]}, {trees[1], trees[0], trees[1]}} {
+			old, a, b := roomyTree(sides[0]), roomyTree(sides[1]), roomyTree(sides[2])
+			args := []any{old, a, b}
+			checkMemory(t, "MergeFits", args, func() []any { return []any{impl.MergeFits(old, a, b)} })
+			checkMemory(t, "MergeTrees", args, func() []any { return mergeAnswers(old, a, b) })
+		}
+	}
+	for _, same := range []impl.Tree{roomyTree(row(20)), roomyTree(chain(6))} { // one and the same memory in all three
+		checkMemory(t, "MergeTrees", same, func() []any { return mergeAnswers(same, same, same) })
+	}
+}
+
+func mergeAnswers(old, a, b impl.Tree) []any {
+	merged, told, ok := impl.MergeTrees(old, a, b)
+	return []any{merged, told, ok}
+}
+
+// What stands behind the end of a list is none of it, in merges too.
+func TestSpareRoomIsNotReadInMerges(t *testing.T) {
+	for _, trees := range someTriples()[:1000] {
+		old, a, b := trees[0], trees[1], trees[2]
+		plain := fmt.Sprint(mergeAnswers(old, a, b), impl.MergeFits(old, a, b))
+		old, a, b = roomyTree(old), roomyTree(a), roomyTree(b)
+		if roomy := fmt.Sprint(mergeAnswers(old, a, b), impl.MergeFits(old, a, b)); roomy != plain {
+			t.Fatalf("%s: %s, and with spare room %s", textOfTrees(trees[:]...), plain, roomy)
+		}
+	}
+}
