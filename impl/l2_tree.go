@@ -197,6 +197,13 @@ func (r *textReader) some(most int, is func(byte) bool) string {
 	return r.text[start:r.at]
 }
 
+// bytes reads so many bytes, whatever they are.
+func (r *textReader) bytes(size int) string {
+	r.must(size <= len(r.text)-r.at)
+	r.at += size
+	return r.text[r.at-size : r.at]
+}
+
 func (r *textReader) name() string {
 	return r.some(NameMax, isLetter)
 }

@@ -2,6 +2,7 @@ package tests
 
 import (
 	"slices"
+	"strconv"
 	"strings"
 	"testing"
 
@@ -152,5 +153,104 @@ func TestVastTreesAreAnsweredInMerges(t *testing.T) {
 				t.Errorf("tree %d fits", i)
 			}
 		}
+	}
+}
+
+// vastObjs are far behind what a library has; of the last no two stand in order.
+func vastObjs() [][]impl.Object {
+	long := underSums(strings.Repeat("x", 3_000_000))
+	var texts []string
+	for at := range 30_000 {
+		texts = append(texts, strconv.Itoa(at))
+	}
+	turned := underSums(texts...)
+	slices.Reverse(turned)
+	return [][]impl.Object{long, underSums(texts...), make([]impl.Object, 300_000), turned}
+}
+
+func TestVastObjectsAreAnswered(t *testing.T) {
+	for i, list := range vastObjs() {
+		right := i < 2
+		got, key := impl.ObjPut(list, "new")
+		if impl.ObjOk(list) != right || right != (key == sumOf("new")) || right != (len(got) == len(list)+1) || !right && len(got) != 0 {
+			t.Errorf("objects %d are ok: %v, and with one more %d", i, impl.ObjOk(list), len(got))
+		}
+		text, there := impl.ObjGet(list, list[len(list)-1].Key)
+		if there != (i != 2) || text != list[len(list)-1].Text {
+			t.Errorf("objects %d: the last is got: %v", i, there)
+		}
+		var keys []string
+		for _, object := range list {
+			keys = append(keys, object.Key)
+		}
+		if kept := impl.ObjKeep(list, keys); !slices.Equal(kept, list) {
+			t.Errorf("objects %d: %d are kept", i, len(kept))
+		}
+		if impl.PackWrite(list) != "" || impl.PackChain(list, 0) != -1 || len(impl.HistBlame(list, keys[0])) != 0 {
+			t.Errorf("objects %d are packed, or have makers", i)
+		}
+		if _, ok := impl.HistAll(list, keys[0]); ok {
+			t.Errorf("objects %d have a history", i)
+		}
+	}
+}
+
+func TestVastTextsAreAnsweredInHistory(t *testing.T) {
+	many := 1_000_000
+	x := sumOf("x")
+	for i, text := range []string{
+		strings.Repeat("\n", many), strings.Repeat("x", many), strings.Repeat(" ", many), strings.Repeat("0 main "+x+" ", 20_000), "0 " + strings.Repeat("a", many) + "\n", "0 main " + strings.Repeat("a", many) + " 00000000\n",
+		strings.Repeat("9", many) + " main " + x + " 00000000\n", "commit\n" + strings.Repeat("over "+x+"\n", 20_000) + "tree " + x + "\nnote n\n", "commit\ntree " + x + "\nnote " + strings.Repeat("n", many) + "\n", "commit\nover " + strings.Repeat("0", many) + "\n",
+	} {
+		refs, size := impl.JourRead(text)
+		added, ok := impl.JourAdd(text, "main", "", x)
+		if len(refs) != 0 || size != 0 || ok || added != text || impl.JourOk(text) || impl.JourOf(text, "main") != "" || impl.JourPack(text) != "" {
+			t.Errorf("text %d is a journal: %v, %d", i, refs, size)
+		}
+		if _, ok := impl.CommitRead(text); ok {
+			t.Errorf("text %d is a commit", i)
+		}
+		if list, ok := impl.PackRead(text); ok || len(list) != 0 {
+			t.Errorf("text %d is a pack", i)
+		}
+	}
+	c := newChance()
+	long := c.jour(5_000)
+	checkJour(t, long)
+	if got, ok := impl.JourAdd(long, strings.Repeat("a", many), "", strings.Repeat("0", many)); ok || got != long {
+		t.Error("a vast journal is added to")
+	}
+}
+
+func TestVastPacksAreAnswered(t *testing.T) {
+	many := 1_000_000
+	for i, body := range []string{
+		strings.Repeat("w0:", many), strings.Repeat("w1:x", many), "w0:" + strings.Repeat("d0:", many), "w" + strings.Repeat("1", many) + ":", "w6001:" + strings.Repeat("x", many), "w0:d999999:" + strings.Repeat("+1:x", 249_999) + "+0:",
+	} {
+		if list, ok := impl.PackRead(sumOf(body) + body); ok || len(list) != 0 {
+			t.Errorf("text %d is a pack of %d", i, len(list))
+		}
+	}
+	old := strings.Repeat("x", many)
+	for i, delta := range []string{strings.Repeat("+1:x", many), strings.Repeat("=0,1;", many), strings.Repeat("=", many), strings.Repeat("+", many), "+" + strings.Repeat("1", many), "=0," + strings.Repeat("1", many) + ";", strings.Repeat("=0,1;", 6000) + "="} {
+		if got, ok := impl.DeltaDo(old, delta); ok || got != "" {
+			t.Errorf("delta %d makes %d", i, len(got))
+		}
+	}
+	if impl.DeltaMake(old, old) != "" || impl.DeltaMake(old, "") != "" || impl.DeltaMake("", old) != "" {
+		t.Error("a delta of vast texts")
+	}
+}
+
+// Packs that ask for most work: pieces that stand at nearly all places, and hardly go on.
+func TestPacksThatAskForMuchAreAnswered(t *testing.T) {
+	var texts []string
+	for at := range 60 {
+		texts = append(texts, strings.Repeat("aaaaaab", 3*at)+strings.Repeat("a", 6000-21*at))
+	}
+	list := underSums(texts...)
+	text := impl.PackWrite(list)
+	if got, ok := impl.PackRead(text); !ok || !slices.Equal(got, list) || len(text) > 64+60*6008 {
+		t.Errorf("unpacked: %v, of %d bytes", ok, len(text))
 	}
 }

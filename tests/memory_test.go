@@ -295,3 +295,114 @@ func TestSpareRoomIsNotReadInMerges(t *testing.T) {
 		}
 	}
 }
+
+// roomy is a list with spare room, and something in it.
+func roomy[T any](list []T, behind ...T) []T {
+	return append(append([]T{}, list...), behind...)[:len(list)]
+}
+
+func roomyObjs(list []impl.Object) []impl.Object {
+	return roomy(list, impl.Object{Key: sumOf("spare"), Text: "spare"}, impl.Object{Key: "z", Text: "more"})
+}
+
+func roomyCommit(c impl.Commit) impl.Commit {
+	c.Over = roomy(c.Over, sumOf("spare"), sumOf("more"))
+	return c
+}
+
+func TestMemoryOfObjects(t *testing.T) {
+	for _, plain := range append(someObjs()[:30], allBadObjs()...) {
+		list := roomyObjs(plain)
+		keys := roomy([]string{sumOf("x"), "none", sumOf("a"), sumOf("x")}, sumOf("y"), sumOf("spare"))
+		for _, text := range []string{"a", "x", "", "new", "spare"} {
+			checkMemory(t, "ObjPut", list, func() []any { return putAnswers(list, text) })
+			checkMemory(t, "ObjGet", list, func() []any { return answers(impl.ObjGet(list, sumOf(text))) })
+		}
+		checkMemory(t, "ObjOk", list, func() []any { return []any{impl.ObjOk(list)} })
+		checkMemory(t, "ObjKeep", []any{list, keys}, func() []any { return []any{impl.ObjKeep(list, keys)} })
+	}
+	all := roomyObjs(underSums("a", "b", "c"))
+	keys := roomy([]string{all[0].Key, all[1].Key, all[2].Key}, "z")
+	checkMemory(t, "ObjKeep of all", []any{all, keys}, func() []any { return []any{impl.ObjKeep(all, keys)} })
+	checkMemory(t, "ObjPut of what is there", all, func() []any { return putAnswers(all, all[2].Text) })
+}
+
+func putAnswers(list []impl.Object, text string) []any {
+	got, key := impl.ObjPut(list, text)
+	return []any{got, key}
+}
+
+func TestMemoryOfJournals(t *testing.T) {
+	c := newChance()
+	for range 60 {
+		text := c.jour(c.Intn(40))
+		checkMemory(t, "JourRead", nil, func() []any {
+			refs, size := impl.JourRead(text)
+			return []any{refs, size}
+		})
+		checkMemory(t, "JourAdd and others", nil, func() []any {
+			added, ok := impl.JourAdd(text, "new", "", sumOf("n"))
+			return []any{added, ok, impl.JourOk(text), impl.JourOf(text, "a"), impl.JourPack(text)}
+		})
+	}
+}
+
+func TestMemoryOfHistory(t *testing.T) {
+	for _, plain := range append(someCommits()[:20], badCommits()...) {
+		commit := roomyCommit(plain)
+		checkMemory(t, "CommitWrite", commit, func() []any { return []any{impl.CommitWrite(commit)} })
+		checkMemory(t, "CommitRead", nil, func() []any { return answers(impl.CommitRead(textOfCommit(plain))) })
+	}
+	c := newChance()
+	for _, p := range somePasts()[:40] {
+		for _, plain := range [][]impl.Object{p.objs(), c.spoiledPast(p)} {
+			list, asked := roomyObjs(plain), c.asked(p)
+			one, other := c.word(asked...), c.word(asked...)
+			checkMemory(t, "HistAll", list, func() []any { return answers(impl.HistAll(list, one)) })
+			checkMemory(t, "HistBase", list, func() []any { return answers(impl.HistBase(list, one, other)) })
+			checkMemory(t, "HistTree", list, func() []any { return answers(impl.HistTree(list, one)) })
+			checkMemory(t, "HistBlame", list, func() []any { return []any{impl.HistBlame(list, one)} })
+		}
+	}
+}
+
+func TestMemoryOfPacks(t *testing.T) {
+	for _, plain := range append(somePacked()[:60], allBadObjs()...) {
+		list := roomyObjs(plain)
+		text, _ := packOf(plain)
+		checkMemory(t, "PackWrite", list, func() []any { return []any{impl.PackWrite(list)} })
+		checkMemory(t, "PackRead", nil, func() []any { return answers(impl.PackRead(text)) })
+		checkMemory(t, "PackChain", list, func() []any { return []any{impl.PackChain(list, len(list)-1), impl.PackChain(list, len(list))} })
+	}
+}
+
+// What stands behind the end of a list is none of it, in objects and commits too.
+func TestSpareRoomIsNotReadInObjects(t *testing.T) {
+	for _, commit := range append(someCommits(), badCommits()...) {
+		if got := impl.CommitWrite(roomyCommit(commit)); got != impl.CommitWrite(commit) {
+			t.Fatalf("%v with spare room is %q", commit, got)
+		}
+	}
+	c := newChance()
+	for _, p := range somePasts()[:60] {
+		list, asked := c.spoiledPast(p), c.asked(p)
+		for range 4 {
+			one, other := c.word(asked...), c.word(asked...)
+			plain := fmt.Sprint(seenOfObjs(list, one, other))
+			if got := fmt.Sprint(seenOfObjs(roomyObjs(list), one, other)); got != plain {
+				t.Fatalf("%v: %s, and with spare room %s", list, plain, got)
+			}
+		}
+	}
+}
+
+// seenOfObjs is what all functions about objects answer.
+func seenOfObjs(list []impl.Object, one, other string) []any {
+	keys := roomy([]string{one, other}, sumOf("spare"), "z")
+	seen := []any{impl.ObjOk(list), impl.ObjKeep(list, keys), impl.HistBlame(list, one), impl.PackWrite(list), impl.PackChain(list, len(list))}
+	seen = append(seen, putAnswers(list, "spare")...)
+	seen = append(seen, answers(impl.ObjGet(list, sumOf("spare")))...)
+	seen = append(seen, answers(impl.HistAll(list, one))...)
+	seen = append(seen, answers(impl.HistBase(list, one, other))...)
+	return append(seen, answers(impl.HistTree(list, one))...)
+}
