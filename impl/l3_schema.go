@@ -2,6 +2,7 @@ package impl
 
 import (
 	"errors"
+	"slices"
 	"strings"
 )
 
@@ -170,6 +171,16 @@ func (c *schemaCursor) item() Item {
 	item.Many = c.skip("*")
 	item.May = c.skip("?")
 	return item
+}
+
+// schemaCopy is a schema that is ok in new memory.
+func schemaCopy(s Schema) Schema {
+	var rules []Rule
+	for _, rule := range s.Rules {
+		rule.Kids = slices.Clone(rule.Kids)
+		rules = append(rules, rule)
+	}
+	return Schema{Root: s.Root, Rules: rules}
 }
 
 // schemaState says whether just these kinds may come from here on.

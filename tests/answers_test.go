@@ -254,3 +254,101 @@ func TestPacksThatAskForMuchAreAnswered(t *testing.T) {
 		t.Errorf("unpacked: %v, of %d bytes", ok, len(text))
 	}
 }
+
+// vastLibs are far behind what a library has, each by one part.
+func vastLibs() map[string]impl.Lib {
+	good := underNames(plainSchema, line(3), "main", line(3).keys[2])
+	libs := map[string]impl.Lib{}
+	for name, change := range map[string]func(*impl.Lib){
+		"rules":   func(l *impl.Lib) { l.Schema = impl.Schema{Root: "a", Rules: make([]impl.Rule, 1_000_000)} },
+		"items":   func(l *impl.Lib) { l.Schema = ruled(make([]impl.Item, 1_000_000)...) },
+		"nothing": func(l *impl.Lib) { l.Objs = make([]impl.Object, 300_000) },
+		"journal": func(l *impl.Lib) { l.Jour = newChance().jour(5_000) },
+		"lines":   func(l *impl.Lib) { l.Jour = strings.Repeat("0 main - 00000000\n", 100_000) },
+	} {
+		l := good
+		change(&l)
+		libs[name] = l
+	}
+	return libs
+}
+
+func TestVastLibrariesAreAnswered(t *testing.T) {
+	for name, l := range vastLibs() {
+		checkNothing(t, l, impl.Cmd{Kind: 1, Name: "main", Tree: "a#1[a#2]"})
+		checkNothing(t, l, impl.Cmd{Kind: 5})
+		_, ok := impl.LibOpen(l)
+		if ok != (name == "lines") || len(impl.LibFaults(l)) == 0 {
+			t.Errorf("%s: it is opened: %v, and wrong is %v", name, ok, impl.LibFaults(l))
+		}
+	}
+	var texts []string
+	for at := range 20_000 {
+		texts = append(texts, strconv.Itoa(at))
+	}
+	l := underNames(plainSchema, past{texts: texts})
+	swept, code := impl.LibDo(l, impl.Cmd{Kind: 5})
+	left := impl.LibCrash(l, impl.Cmd{Kind: 5}, 10_000, 0)
+	if !impl.LibOk(l) || code != 0 || len(swept.Objs) != 0 || len(left.Objs) != 10_000 || impl.LibSave(l) != "" {
+		t.Errorf("of 20000 objects there stay %d, and without power %d", len(swept.Objs), len(left.Objs))
+	}
+	more, code := impl.LibDo(l, impl.Cmd{Kind: 1, Name: "main", Tree: "a#1"})
+	if code != 0 || len(more.Objs) != 20_002 {
+		t.Errorf("to 20000 objects there come %d", len(more.Objs)-20_000)
+	}
+}
+
+func TestVastCommandsAreAnswered(t *testing.T) {
+	many := 1_000_000
+	l := underNames(plainSchema, line(3), "main", line(3).keys[2])
+	long := strings.Repeat("a", many)
+	for _, c := range []struct {
+		cmd  impl.Cmd
+		code int
+	}{
+		{impl.Cmd{Kind: 1, Name: long, Tree: "a#1"}, 1}, {impl.Cmd{Kind: 1, Name: "main", Tree: strings.Repeat("a#1[", many)}, 4}, {impl.Cmd{Kind: 1, Name: "main", Tree: "a#2", Note: long}, 1}, {impl.Cmd{Kind: 2, Name: "new", From: long}, 1},
+		{impl.Cmd{Kind: 3, Name: "main", From: "main", Note: long}, 6}, {impl.Cmd{Kind: 5, Note: long}, 1}, {impl.Cmd{Kind: 1 << 62, Name: long, From: long, Tree: long, Note: long}, 1},
+	} {
+		if _, code := impl.LibDo(l, c.cmd); code != c.code {
+			t.Errorf("a vast command of the kind %d is answered by %d", c.cmd.Kind, code)
+		}
+	}
+	if _, code := impl.LibPick(l, long, line(3).keys[2], long); code != 2 {
+		t.Errorf("a vast name is picked for: %d", code)
+	}
+	if _, code := impl.LibUndo(l, "main", long, long); code != 4 {
+		t.Errorf("a vast sum is undone: %d", code)
+	}
+}
+
+func TestVastSessionsAreAnswered(t *testing.T) {
+	many := 300_000
+	if got := impl.LibSession(plainSchema, make([]string, many)); got != strings.Repeat("what\n", many) {
+		t.Errorf("%d empty lines are answered in %d bytes", many, len(got))
+	}
+	if got := impl.LibSession(plainSchema, slices.Repeat([]string{"see", "drop a", "sweep"}, 10_000)); got != strings.Repeat("library\ncode 2\ncode 0\n", 10_000) {
+		t.Errorf("30000 lines are answered in %d bytes", len(got))
+	}
+	for i, line := range []string{strings.Repeat(" ", many), "commit main n " + strings.Repeat("a#1[", many), "drop " + strings.Repeat("a", many), "commit main " + strings.Repeat("n ", many)} {
+		want := []string{"what\n", "code 4\n", "code 1\n", "what\n"}[i]
+		if got := impl.LibSession(plainSchema, []string{line}); got != want {
+			t.Errorf("vast line %d is answered by %q", i, got)
+		}
+	}
+	for i, text := range []string{strings.Repeat("library 1 1\n", many), "library " + strings.Repeat("9", many) + " 1\n", "library 999999 999999\n" + strings.Repeat("x", 2*many), strings.Repeat("\n", many)} {
+		if got, ok := impl.LibLoad(text); ok || !sameLib(got, impl.Lib{}) {
+			t.Errorf("vast text %d is read", i)
+		}
+	}
+}
+
+func TestVastTreesAreAnsweredInPicks(t *testing.T) {
+	for i, vast := range vastTrees() {
+		good := impl.Tree{Id: vast.Id, Kind: "a"}
+		for _, c := range [][3]impl.Tree{{vast, good, good}, {good, vast, good}, {good, good, vast}, {vast, vast, vast}} {
+			if got, ok := impl.MergePick(c[0], c[1], c[2], []bool{true, false}); ok || !sameTree(got, impl.Tree{}) {
+				t.Errorf("tree %d is put together", i)
+			}
+		}
+	}
+}

@@ -406,3 +406,97 @@ func seenOfObjs(list []impl.Object, one, other string) []any {
 	seen = append(seen, answers(impl.HistBase(list, one, other))...)
 	return append(seen, answers(impl.HistTree(list, one))...)
 }
+
+// roomyLib is a library each list of which has spare room, with something in it.
+func roomyLib(l impl.Lib) impl.Lib {
+	return impl.Lib{Schema: roomySchema(l.Schema), Objs: roomyObjs(l.Objs), Jour: l.Jour}
+}
+
+// somePlainLibs are libraries that are ok, and as many that mostly are not.
+func somePlainLibs(c chance) []impl.Lib {
+	list := someLibs(c)[:30]
+	for _, l := range list {
+		list = append(list, c.spoiledLib(l))
+	}
+	return list
+}
+
+func TestMemoryOfLibraries(t *testing.T) {
+	c := newChance()
+	for at, plain := range somePlainLibs(c) {
+		l := roomyLib(plain)
+		cmds := []impl.Cmd{c.cmd(someLibs(c)[at%5]), {Kind: 1, Name: "new", Tree: "a#1"}, {Kind: 1, Name: "new", Tree: "b#1"}, {Kind: 2, Name: "new", From: "main"}, {Kind: 3, Name: "main", From: "work"}, {Kind: 4, Name: "main"}, {Kind: 5}, {Kind: 6}, {}}
+		for _, cmd := range cmds {
+			checkMemory(t, "LibDo", l, func() []any { return libAnswers(impl.LibDo(l, cmd)) })
+			for objs := range 3 {
+				checkMemory(t, "LibCrash", l, func() []any { return []any{impl.LibCrash(l, cmd, objs, 50)} })
+			}
+		}
+		checkMemory(t, "LibOk, LibSee and LibSave", l, func() []any { return []any{impl.LibOk(l), impl.LibSee(l), impl.LibSave(l)} })
+		checkMemory(t, "LibOpen", l, func() []any { return answers(impl.LibOpen(l)) })
+		checkMemory(t, "LibFaults", l, func() []any { return []any{impl.LibFaults(l)} })
+		checkMemory(t, "LibLoad", nil, func() []any { return answers(impl.LibLoad(saved(plain))) })
+		key := standingFor(l.Jour, "work")
+		checkMemory(t, "LibPick", l, func() []any { return libAnswers(impl.LibPick(l, "main", key, "n")) })
+		checkMemory(t, "LibUndo", l, func() []any { return libAnswers(impl.LibUndo(l, "work", key, "n")) })
+	}
+	for _, plain := range append(someSchemas()[:40], badSchemas()...) {
+		s := roomySchema(plain)
+		checkMemory(t, "LibNew", s, func() []any { return []any{impl.LibNew(s)} })
+	}
+	lines := roomy([]string{"commit main n a#1", "see", "what", "pack"}, "see", "sweep")
+	checkMemory(t, "LibSession", lines, func() []any { return []any{impl.LibSession(plainSchema, lines)} })
+}
+
+func libAnswers(l impl.Lib, code int) []any {
+	return []any{l, code}
+}
+
+func TestMemoryOfHistoriesAndPicks(t *testing.T) {
+	c := newChance()
+	for _, p := range somePasts()[:40] {
+		list, asked := roomyObjs(p.objs()), c.asked(p)
+		one, other := c.word(asked...), c.word(asked...)
+		checkMemory(t, "HistSince", list, func() []any { return answers(impl.HistSince(list, one, other)) })
+		checkMemory(t, "HistPart", list, func() []any { return answers(impl.HistPart(list, one)) })
+	}
+	for _, trees := range someTriples()[:400] {
+		old, a, b, picks := roomyTree(trees[0]), roomyTree(trees[1]), roomyTree(trees[2]), roomy(c.picks(c.Intn(4)), false, true, false)
+		checkMemory(t, "MergePick", []any{old, a, b, picks}, func() []any { return answers(impl.MergePick(old, a, b, picks)) })
+	}
+}
+
+// What stands behind the end of a list is none of it, in libraries too.
+func TestSpareRoomIsNotReadInLibraries(t *testing.T) {
+	c := newChance()
+	for _, l := range somePlainLibs(c) {
+		cmd, key := c.cmd(someLibs(c)[0]), standingFor(l.Jour, "work")
+		plain := fmt.Sprint(seenOfLib(l, cmd, key))
+		if got := fmt.Sprint(seenOfLib(roomyLib(l), cmd, key)); got != plain {
+			t.Fatalf("%v: %s, and with spare room %s", l, plain, got)
+		}
+	}
+	lines := []string{"commit main n a#1", "see"}
+	if got := impl.LibSession(plainSchema, roomy(lines, "see", "pack")); got != impl.LibSession(plainSchema, lines) {
+		t.Errorf("lines behind the end are done: %q", got)
+	}
+	for _, trees := range someTriples()[:1000] {
+		picks := c.picks(c.Intn(3))
+		plain := fmt.Sprint(answers(impl.MergePick(trees[0], trees[1], trees[2], picks)))
+		if got := fmt.Sprint(answers(impl.MergePick(roomyTree(trees[0]), roomyTree(trees[1]), roomyTree(trees[2]), roomy(picks, false, false, false)))); got != plain {
+			t.Fatalf("%sby %v: %s, and with spare room %s", textOfTrees(trees[:]...), picks, plain, got)
+		}
+	}
+}
+
+// seenOfLib is what all functions about libraries answer.
+func seenOfLib(l impl.Lib, cmd impl.Cmd, key string) []any {
+	seen := []any{impl.LibNew(l.Schema), impl.LibOk(l), impl.LibSee(l), impl.LibSave(l), impl.LibFaults(l), impl.LibCrash(l, cmd, 1, 20)}
+	seen = append(seen, libAnswers(impl.LibDo(l, cmd))...)
+	seen = append(seen, libAnswers(impl.LibDo(l, impl.Cmd{Kind: 5}))...)
+	seen = append(seen, libAnswers(impl.LibPick(l, "main", key, "n"))...)
+	seen = append(seen, libAnswers(impl.LibUndo(l, "work", key, "n"))...)
+	seen = append(seen, answers(impl.HistSince(l.Objs, key, key))...)
+	seen = append(seen, answers(impl.HistPart(l.Objs, key))...)
+	return append(seen, answers(impl.LibOpen(l))...)
+}

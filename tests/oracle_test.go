@@ -193,13 +193,19 @@ func sameSchema(a, b impl.Schema) bool {
 	return a.Root == b.Root && fmt.Sprint(a.Rules) == fmt.Sprint(b.Rules)
 }
 
+// ruleForms are made once each.
+var ruleForms = map[string]*regexp.Regexp{}
+
 // ruleForm is a rule's items as a regular expression over kinds, each with a space behind it.
 func ruleForm(items []impl.Item) *regexp.Regexp {
 	form := "^"
 	for _, item := range items {
 		form += "(?:" + item.Kind + " )" + markOf(item)
 	}
-	return regexp.MustCompile(form + "$")
+	if ruleForms[form] == nil {
+		ruleForms[form] = regexp.MustCompile(form + "$")
+	}
+	return ruleForms[form]
 }
 
 func kindsFit(form *regexp.Regexp, kinds []string) bool {
